@@ -1,0 +1,1 @@
+"""What a plan costs at most."""
