@@ -39,6 +39,10 @@ def alike_of(ctable, table, column):
     return ctable[table_start(table) + FIRST_ALIKE + column]
 
 
+def column_indexed(ctable, table, column):
+    return (indexed_of(ctable, table) >> column) % 2 == 1
+
+
 def alike_as_told(ctable, table):
     for column in range(cols_of(ctable, table)):
         if not 0 <= alike_of(ctable, table, column) <= MOST_ALIKE:

@@ -5,6 +5,7 @@ from plancost.catalogue import cols_of
 MOST_PLACES = 5
 MOST_CONDS = 12
 MOST_OUTS = 8
+EQUAL = 0
 LAST_OP = 5
 
 # Stands for b where a condition compares with the number j.

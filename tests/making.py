@@ -1,4 +1,4 @@
-"""Makes catalogues and questions, as the interface writes them out, for the tests."""
+"""Makes catalogues, questions and plans, as the interface writes them out, for the tests."""
 
 GREATEST = 2 ** 63 - 1
 LEAST_J = -(2 ** 31)
@@ -87,3 +87,18 @@ def copied(told):
 
 def arguments(told):
     return [told[name] for name in NUMBERS + LISTS]
+
+
+def behind(numbers, junk=GREATEST):
+    """The numbers of a plan's steps as a list of five; what stands behind holds junk."""
+    return list(numbers) + [junk] * (5 - len(numbers))
+
+
+class Locked(list):
+    """A list that takes no change, not for a while either."""
+
+    def refuse(self, *args, **kwargs):
+        raise AssertionError("a list that was handed in is changed")
+
+    __setitem__ = __delitem__ = __iadd__ = __imul__ = refuse
+    append = clear = extend = insert = pop = remove = reverse = sort = refuse

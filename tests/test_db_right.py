@@ -13,6 +13,7 @@ from tests.making import (
     LEAST_J,
     LISTS,
     NUMBERS,
+    Locked,
     arguments,
     case,
     changed,
@@ -328,16 +329,6 @@ class SeveralWrong(RightCase):
         for name in LISTS:
             told[name] = [0] * len(told[name])
         self.wrong(told)
-
-
-class Locked(list):
-    """A list that takes no change, not for a while either."""
-
-    def refuse(self, *args, **kwargs):
-        raise AssertionError("a list that was handed in is changed")
-
-    __setitem__ = __delitem__ = __iadd__ = __imul__ = refuse
-    append = clear = extend = insert = pop = remove = reverse = sort = refuse
 
 
 class Kept(unittest.TestCase):

@@ -116,6 +116,13 @@ class Language(unittest.TestCase):
                     with self.subTest(file=path.name, line=node.lineno, name=node.id):
                         self.assertTrue(node.id in bound or node.id in PYTHONS_OWN)
 
+    def test_locals_are_not_called_like_an_import(self):
+        for path, text, tree in parsed():
+            drawn = [alias.name for node in tree.body if isinstance(node, ast.ImportFrom) for alias in node.names]
+            for function in [node for node in ast.walk(tree) if isinstance(node, ast.FunctionDef)]:
+                with self.subTest(file=path.name, function=function.name):
+                    self.assertEqual(bound_names(function) & set(drawn), set())
+
     def test_imports(self):
         drawn = {}
         for path, text, tree in parsed():
