@@ -42,13 +42,19 @@ def most_rows_found(qconds, ctable, qtable, qcond, place, earlier):
     return least
 
 
+# Of each step how many rows come to it.
+def rows_coming(qtables, qconds, ctable, qtable, qcond, order):
+    coming = [1]
+    for step in range(qtables - 1):
+        found = most_rows_found(qconds, ctable, qtable, qcond, order[step], order[:step])
+        coming.append(coming[step] * found)
+    return coming
+
+
 # The plan is one of the question.
 def plan_cost(qtables, qconds, ctable, qtable, qcond, order, by):
+    coming = rows_coming(qtables, qconds, ctable, qtable, qcond, order)
     cost = 0
-    coming = 1
     for step in range(qtables):
-        place = order[step]
-        earlier = order[:step]
-        cost = cost + coming * step_pages(ctable, qtable, qcond, place, earlier, by[step])
-        coming = coming * most_rows_found(qconds, ctable, qtable, qcond, place, earlier)
+        cost = cost + coming[step] * step_pages(ctable, qtable, qcond, order[step], order[:step], by[step])
     return cost

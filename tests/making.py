@@ -1,5 +1,8 @@
 """Makes catalogues, questions and plans, as the interface writes them out, for the tests."""
 
+import itertools
+
+SCAN = 255
 GREATEST = 2 ** 63 - 1
 LEAST_J = -(2 ** 31)
 GREATEST_J = 2 ** 31 - 1
@@ -92,6 +95,83 @@ def arguments(told):
 def behind(numbers, junk=GREATEST):
     """The numbers of a plan's steps as a list of five; what stands behind holds junk."""
     return list(numbers) + [junk] * (5 - len(numbers))
+
+
+def number_tie(place, column, number=5):
+    """A condition that ties a column of a place to a number."""
+    return (place, column, 0, 255, number)
+
+
+def wrongs():
+    """Copies of middle() with one number set, so that the catalogue isn't as told or the question isn't right of it.
+
+    It has three tables of 1, 2 and 3 columns, and three places, of tables 2, 0 and 1.
+    """
+    for name, bad in (("ctables", [0, 1, 2, 9]), ("cnone", [1]), ("qtables", [0, 1, 2, 6]), ("qconds", [13]),
+                      ("qouts", [0, 9]), ("qnone", [1])):
+        for value in bad + [256, GREATEST]:
+            yield changed(middle(), name, value)
+    for number, cols in enumerate((1, 2, 3)):
+        start = 1 + 9 * number
+        # cols, rows, indexed, none, alike
+        for at, bad in ((0, [0, 5]), (1, [4097]), (2, [2 ** cols, 2 ** cols + 1]), (3, [1])):
+            for value in bad + [GREATEST]:
+                yield changed(middle(), "ctable", value, start + at)
+        for column, value in itertools.product(range(cols), [4097, GREATEST]):
+            yield changed(middle(), "ctable", value, start + 5 + column)
+    for place, value in itertools.product(range(3), [3, 255, GREATEST]):
+        yield changed(middle(), "qtable", value, place)
+    cols = [3, 1, 2]
+    for number, (a, i, op, b, j) in enumerate(((0, 2, 0, 2, 1), (2, 0, 4, 255, -5), (1, 0, 1, 0, 0))):
+        of_j = [] if b == 255 else [-1, cols[b], LEAST_J, GREATEST_J]
+        for at, bad in enumerate(([3, 254, 255], [cols[a], GREATEST], [6, GREATEST], [3, 254], of_j)):
+            for value in bad:
+                yield changed(middle(), "qcond", value, 5 * number + at)
+    for number, place in enumerate((0, 2)):
+        for at, bad in enumerate(([3, 255, GREATEST], [cols[place], GREATEST])):
+            for value in bad:
+                yield changed(middle(), "qout", value, 2 * number + at)
+
+
+class Drawn:
+    """Numbers that look drawn by lot, the same ones each time."""
+
+    def __init__(self, seed):
+        self.state = seed
+
+    def below(self, count):
+        self.state = (self.state * 6364136223846793005 + 1442695040888963407) % 2 ** 64
+        return (self.state >> 33) % count
+
+    def one_of(self, values):
+        return values[self.below(len(values))]
+
+
+# Rows and alike: with small ones much costs alike, with larger ones lookups pay.
+SMALL = (0, 0, 1, 1, 2, 3, 16, 17, 33)
+LARGER = (0, 1, 2, 3, 7, 16, 40, 100, 333, 1000, 2000, 4095, 4096)
+
+
+def drawn_table(drawn, values):
+    cols = 1 + drawn.below(4)
+    alike = [drawn.one_of((0, 1, 2, 3, 5, drawn.one_of(values))) for column in range(cols)]
+    return table(cols, drawn.one_of(values), drawn.below(2 ** cols), 0, alike)
+
+
+def drawn_case(seed, places, conds):
+    """A question that is right, of so many places and conditions."""
+    drawn = Drawn(seed)
+    values = drawn.one_of((SMALL, LARGER))
+    tables = [drawn_table(drawn, values) for number in range(1 + drawn.below(4))]
+    of_places = [drawn.below(len(tables)) for place in range(places)]
+    cols = [tables[number][0] for number in of_places]
+    told = []
+    for cond in range(conds):
+        a = drawn.below(places)
+        b = drawn.one_of([255] + list(range(places)))
+        j = drawn.below(9) - 4 if b == 255 else drawn.below(cols[b])
+        told.append((a, drawn.below(cols[a]), drawn.one_of((0, 0, 0, 0, 1, 2)), b, j))
+    return case(tables, of_places, told)
 
 
 class Locked(list):

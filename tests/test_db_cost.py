@@ -17,6 +17,7 @@ from tests.making import (
     LEAST_J,
     LISTS,
     NUMBERS,
+    SCAN,
     Locked,
     arguments,
     behind,
@@ -24,16 +25,13 @@ from tests.making import (
     changed,
     full,
     middle,
+    number_tie,
     small,
     table,
+    wrongs,
 )
 
-SCAN = 255
 LARGE = [255, 256, 257, 2 ** 31, 2 ** 32, 2 ** 32 + 1, 2 ** 62, GREATEST - 1, GREATEST]
-
-
-def number_tie(place, column, number=5):
-    return (place, column, 0, 255, number)
 
 
 def answered(told, order, by):
@@ -72,35 +70,18 @@ class Refusals(CostCase):
         ([0, 1, 2], [SCAN, SCAN, GREATEST]),
     ]
 
-    def wrongs(self):
-        for name in ("cnone", "qnone"):
-            yield changed(middle(), name, 1)
-        for name, value in (("ctables", 0), ("ctables", 9), ("qtables", 0), ("qtables", 6), ("qconds", 13),
-                            ("qouts", 0), ("qouts", 9)):
-            yield changed(middle(), name, value)
-        for name in NUMBERS:
-            yield changed(middle(), name, GREATEST)
-        for at, value in ((1, 0), (1, 5), (2, 4097), (3, 2), (4, 1), (6, 4097), (19, GREATEST)):
-            yield changed(middle(), "ctable", value, at)
-        for at in range(3):
-            yield changed(middle(), "qtable", 3, at)
-        for at, value in ((0, 3), (0, 255), (1, 3), (2, 6), (3, 3), (3, 254), (4, 2), (4, -1), (14, LEAST_J)):
-            yield changed(middle(), "qcond", value, at)
-        for at, value in ((0, 3), (1, 3), (2, GREATEST), (3, 2)):
-            yield changed(middle(), "qout", value, at)
-
     def test_the_plans_are_as_the_tests_below_take_them(self):
         self.is_plan(middle(), *self.plan)
         for order, by in self.no_plans:
             self.no_plan(middle(), order, by)
 
     def test_not_right_with_a_plan(self):
-        for told in self.wrongs():
+        for told in wrongs():
             self.assertEqual(db_right(*arguments(told)), [0, -22])
             self.not_right(told, *self.plan, told)
 
     def test_not_right_comes_before_no_plan(self):
-        for told in self.wrongs():
+        for told in wrongs():
             for order, by in self.no_plans:
                 self.not_right(told, order, by, told)
 

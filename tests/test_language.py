@@ -123,6 +123,18 @@ class Language(unittest.TestCase):
                 with self.subTest(file=path.name, function=function.name):
                     self.assertEqual(bound_names(function) & set(drawn), set())
 
+    def test_no_function_calls_itself_in_however_many_steps(self):
+        called = {}
+        for path, text, tree in parsed():
+            for function in [node for node in ast.walk(tree) if isinstance(node, ast.FunctionDef)]:
+                self.assertNotIn(function.name, called, "a name twice would blur who calls whom")
+                called[function.name] = {node.id for node in ast.walk(function) if isinstance(node, ast.Name)}
+        while called:
+            ready = [name for name in called if not any(other in called for other in called[name])]
+            self.assertNotEqual(ready, [], "functions call one another in a ring")
+            for name in ready:
+                called.pop(name)
+
     def test_imports(self):
         drawn = {}
         for path, text, tree in parsed():
